@@ -63,7 +63,7 @@ func (s *state) may(n *qnode.Nodes) bool {
 	if s.shared>>n.Threads() != 0 || !thread(s.update) || !thread(s.exclusive) || s.wants != nobody && s.wants != s.update {
 		return false
 	}
-	if s.has(s.update) || !modes.All(s.held()) { // S and U are the only two modes that one thread could hold, and others go with
+	if s.has(s.update) || !modes.All(s.held()) { // S and U alone go together, so that these are the two that one thread could hold
 		return false
 	}
 	if s.group < 0 || s.group > modes.Batch || s.group > 0 && s.shared == 0 {
